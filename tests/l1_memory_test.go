@@ -7,7 +7,7 @@ import (
 	"loop.example/tuggers/impl"
 )
 
-// Junk lies behind the end of an argument; the others are written into an answer.
+// Junk lies behind the end of an argument, and is written into it at last; the others are written into an answer.
 var (
 	junkVal, otherVal     = 777, 666
 	junkEntry, otherEntry = impl.MapEntry{Key: 77, Val: junkVal}, impl.MapEntry{Key: 66, Val: otherVal}
@@ -30,7 +30,7 @@ func overwrite[T any](things []T, junk T) {
 }
 
 // checkMemory fails if a call writes into its argument, or into the room behind it, or answers memory that it shares with that, or with another answer.
-func checkMemory[T comparable](t *testing.T, things []T, junk, other T, call func([]T) []T) {
+func checkMemory[T, A comparable](t *testing.T, things []T, junk T, other A, call func([]T) []A) {
 	t.Helper()
 	argument := roomy(things, junk)
 	room := argument[:cap(argument)]
@@ -45,7 +45,7 @@ func checkMemory[T comparable](t *testing.T, things []T, junk, other T, call fun
 	if !slices.Equal(second, want) {
 		t.Errorf("of %v: two answers share memory, or differ: %v, %v", things, second, want)
 	}
-	overwrite(argument, other)
+	overwrite(argument, junk)
 	if !slices.Equal(second, want) {
 		t.Errorf("of %v: a write into the argument turned the answer: %v, want %v", things, second, want)
 	}
