@@ -16,6 +16,8 @@ func along(a impl.ArnArena, first int) []int {
 	return places
 }
 
+// P19
+
 func TestNewPlaces(t *testing.T) {
 	a := impl.ArnNew()
 	nodes := make([]impl.ArnNode, impl.ArnSize+1)
@@ -28,6 +30,11 @@ func TestNewPlaces(t *testing.T) {
 	wantInts(t, impl.ArnChain(a), nil, "the map's places")
 	wantInts(t, impl.ArnStacked(a), nil, "the stack's places")
 	wantInts(t, impl.ArnQueued(a), []int{1}, "the queue's places")
+	if m := impl.ArnMap(a); len(m.Entries) != 0 {
+		t.Errorf("new places have entries: %v", m)
+	}
+	wantInts(t, impl.ArnStack(a), nil, "the stack's values")
+	wantInts(t, impl.ArnQueue(a), nil, "the queue's values")
 }
 
 func TestFreePlacesOfAny(t *testing.T) {

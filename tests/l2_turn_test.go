@@ -27,6 +27,7 @@ func TestTakeIsTheFirstThatIsNotInUse(t *testing.T) {
 	}
 }
 
+// P14, P19: of new places all can be taken but the head, and that ahead of the queue.
 func TestTakeAllOneByOne(t *testing.T) {
 	a := impl.ArnNew()
 	for want := 2; want <= impl.ArnSize; want++ {
