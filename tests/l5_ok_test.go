@@ -385,8 +385,21 @@ func TestPinsOfIdleHands(t *testing.T) {
 func wrongRefs() []impl.HndRef {
 	return []impl.HndRef{
 		{At: 4, Gen: 13}, {At: 4, Gen: 15}, {At: 4, Gen: 0}, {At: 4, Gen: -14}, {At: 1, Gen: 11}, {At: 1, Gen: 0},
-		{At: -1, Gen: 0}, {At: -4, Gen: 14}, {At: 10, Gen: 20}, {At: 10, Gen: 0}, {At: math.MinInt}, {At: math.MaxInt},
+		{At: 9, Gen: 20}, {At: 9, Gen: 0},
 	}
+}
+
+// noPlaces are places below 0, and past the end, each with a Gen, and with none.
+func noPlaces() []impl.HndRef {
+	return []impl.HndRef{
+		{At: -1}, {At: -1, Gen: 10}, {At: -1, Gen: -1}, {At: -4, Gen: 14}, {At: math.MinInt}, {At: math.MinInt, Gen: 7},
+		{At: 10}, {At: 10, Gen: 20}, {At: 14, Gen: 14}, {At: math.MaxInt}, {At: math.MaxInt, Gen: 7},
+	}
+}
+
+// noRefs are all ways to hold none.
+func noRefs() []impl.HndRef {
+	return append(noPlaces(), impl.HndRef{}, impl.HndRef{Gen: 7}, impl.HndRef{Gen: -7})
 }
 
 // refWorld has place 1 in use no more.
@@ -433,9 +446,15 @@ func TestHandsWithTheHeadAhead(t *testing.T) {
 	}
 }
 
+// A hand goes from Pred, which is at least the head: it can't be none.
+func TestHandsWithNoneAhead(t *testing.T) {
+	for _, none := range noPlaces() {
+		wantHandOk(t, "no Pred", func(h *impl.HndHand) { h.Pred = none }, but(predSeenPcs))
+	}
+}
+
 func TestHandsThatHoldNone(t *testing.T) {
-	for _, gen := range []int{0, 7} {
-		none := impl.HndRef{Gen: gen}
+	for _, none := range noRefs() {
 		wantHandOk(t, "no Curr", func(h *impl.HndHand) { h.Curr = none }, but(currPcs))
 		wantHandOk(t, "no Own", func(h *impl.HndHand) { h.Own = none }, but(ownPcs))
 		wantHandOk(t, "no Old", func(h *impl.HndHand) { h.Old = none }, but(oldPcs))
