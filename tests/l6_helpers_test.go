@@ -15,9 +15,12 @@ func callOf(k int, o impl.OpOp) impl.EvEvent {
 	return impl.EvEvent{Hand: k, Op: o}
 }
 
-// The five below are the document's words for what happens, by WldStep and WldCall alone; of a world that is ok, and of numbers in their bounds.
+// The five below are the document's words for what happens, by WldStep and WldCall, and, where a world that is not ok any more is gone on with, by the table; of a world that is ok at first, and of numbers in their bounds.
 
 func doneByHand(w impl.WldWorld, e impl.EvEvent) impl.WldWorld {
+	if !impl.WldOk(w) {
+		return tableDo(w, e)
+	}
 	if e.Op.Kind == 0 {
 		return impl.WldStep(w, e.Hand)
 	}
@@ -46,7 +49,7 @@ func roundByHand(w impl.WldWorld, n int) impl.WldWorld {
 	w = cloneWorld(w)
 	for range n {
 		for k := range impl.PolHands {
-			w = impl.WldStep(w, k)
+			w = doneByHand(w, stepOf(k))
 		}
 	}
 	return w
@@ -59,7 +62,10 @@ func tidyByHand(w impl.WldWorld, n int) impl.WldWorld {
 	}
 	for range n {
 		for k := range impl.PolHands {
-			w, _ = workByHand(impl.WldCall(w, k, clearOp), k, 500)
+			w = doneByHand(w, callOf(k, clearOp))
+			for n := 0; n < 500 && w.Hands[k].Pc != impl.PcIdle && w.Clock < impl.ClkMost; n++ {
+				w = doneByHand(w, stepOf(k))
+			}
 		}
 	}
 	return w

@@ -111,26 +111,6 @@ func TestRoundUpToTheEndOfTheClock(t *testing.T) {
 	}
 }
 
-// A world that is not ok any more is gone on with: the next hand's step is one of that, and so leaves nothing.
-func TestRoundGoesOnThoughTheWorldIsNotOk(t *testing.T) {
-	met := 0
-	for name, ws := range brokenSteps() {
-		was, is := onlyActing(ws[0]), onlyActing(ws[1])
-		if impl.WldOk(is) {
-			continue
-		}
-		met++
-		wantWorld(t, impl.WldRound(was, 1), impl.WldWorld{}, name, "others come behind it")
-		last := impl.PolHands - 1
-		was, is = swappedHands(was, last), swappedHands(is, last)
-		wantWorld(t, impl.WldRound(was, 1), is, name, "it comes last")
-		wantWorld(t, impl.WldRound(was, 2), impl.WldWorld{}, name, "and once more")
-	}
-	if met == 0 {
-		t.Error("no step leaves a world that is not ok")
-	}
-}
-
 // onlyActing has all hands idle but the acting one.
 func onlyActing(w impl.WldWorld) impl.WldWorld {
 	return turnedWorld(w, func(w *impl.WldWorld) {

@@ -114,23 +114,6 @@ func TestRunOfAWorldThatIsNotOk(t *testing.T) {
 	}
 }
 
-// A world that is not ok any more is gone on with: what comes behind a step that leaves one is a step of that, and so leaves nothing.
-func TestRunGoesOnThoughTheWorldIsNotOk(t *testing.T) {
-	met := 0
-	for name, ws := range brokenSteps() {
-		met++
-		wantWorld(t, impl.WldRun(ws[0], []impl.EvEvent{stepOf(acting)}), ws[1], name)
-		wantWorld(t, impl.WldRun(ws[0], []impl.EvEvent{stepOf(3), stepOf(acting)}), ws[1], name, "behind no hand")
-		for _, e := range []impl.EvEvent{stepOf(0), stepOf(acting), stepOf(3), callOf(0, popOp), callOf(-1, op(13))} {
-			wantWorld(t, impl.WldRun(ws[0], []impl.EvEvent{stepOf(acting), e}), impl.WldWorld{}, name, "and then", e)
-			wantWorld(t, impl.WldRun(ws[0], []impl.EvEvent{stepOf(acting), e, stepOf(acting)}), impl.WldWorld{}, name, "and then, and on", e)
-		}
-	}
-	if met == 0 {
-		t.Error("no step leaves a world that is not ok")
-	}
-}
-
 func TestRunAtTheEndOfTheClock(t *testing.T) {
 	w := busyWorld(impl.PcScan, clearOp)
 	for ahead := range 4 {

@@ -149,15 +149,3 @@ func onceTooOften() impl.WldWorld {
 	w.Arena.Nodes[0].Ver = math.MaxInt
 	return w
 }
-
-// A world that is not ok any more is gone on with: the next hand is asked in that, and so nothing is left.
-func TestTidyGoesOnThoughTheWorldIsNotOk(t *testing.T) {
-	wantWorldOk(t, onceTooOften(), true, "ahead of it")
-	is, steps := impl.WldWork(impl.WldCall(onceTooOften(), 0, clearOp), 0, 500)
-	if impl.WldOk(is) || len(is.Hands) == 0 || steps != 6 {
-		t.Fatalf("behind %d steps there is %+v", steps, is)
-	}
-	for times := 1; times <= 9; times++ {
-		wantWorld(t, impl.WldTidy(onceTooOften(), times), impl.WldWorld{}, times)
-	}
-}
