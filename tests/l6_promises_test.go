@@ -12,6 +12,7 @@ func alwaysBy(w watcher) func() watcher {
 // watchRuns holds a promise behind each thing that happens, in many runs, and in long ones; some of what happens must be of the kind that it tells of.
 func watchRuns(t *testing.T, newWatcher func() watcher) {
 	t.Helper()
+	t.Parallel()
 	met := 0
 	watch := func(n, size int) {
 		look := newWatcher()
